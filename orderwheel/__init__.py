@@ -1,0 +1,1 @@
+"""Orderwheel: a kitchen's notes on a wheel of clips."""
